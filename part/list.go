@@ -8,8 +8,8 @@ const (
 	mostItems = 100 // of a list
 )
 
-// getInt reads a whole number.
-func getInt(r *code.Reader) int {
+// GetInt reads a whole number.
+func GetInt(r *code.Reader) int {
 	return r.Int(mostInt)
 }
 
@@ -29,4 +29,13 @@ func getList[T any](r *code.Reader, get func(*code.Reader) T) []T {
 		l = append(l, get(r))
 	}
 	return l
+}
+
+// copyList makes a list of copies.
+func copyList[T any](l []T, copyOne func(T) T) []T {
+	var out []T
+	for _, x := range l {
+		out = append(out, copyOne(x))
+	}
+	return out
 }

@@ -1,6 +1,6 @@
 // Package part: the bytes of all parts that messages are made of. Package wire hands out the greater ones alone; the packages that write or read the others take them from here.
 //
-// A Put call writes behind what the writer has, and returns it. A Get call reads the same back; what it answers counts only if the reader has not failed then.
+// A Put call writes behind what the writer has, and returns it. A Get call reads the same back; what it answers counts only if the reader has not failed then. A Copy call tells the same part in new memory (there is none for parts without lists: to assign them is to copy them).
 package part
 
 import (
@@ -17,7 +17,7 @@ func PutSig(w *code.Writer, x api.Sig) *code.Writer {
 
 // GetSig reads a signature.
 func GetSig(r *code.Reader) api.Sig {
-	return api.Sig{By: getInt(r), Mark: getInt(r)}
+	return api.Sig{By: GetInt(r), Mark: GetInt(r)}
 }
 
 // PutName writes a request's name.
@@ -27,7 +27,7 @@ func PutName(w *code.Writer, x api.Name) *code.Writer {
 
 // GetName reads a request's name.
 func GetName(r *code.Reader) api.Name {
-	return api.Name{Client: getInt(r), Seq: getInt(r)}
+	return api.Name{Client: GetInt(r), Seq: GetInt(r)}
 }
 
 // PutCommit writes a commitment.
@@ -37,7 +37,7 @@ func PutCommit(w *code.Writer, x api.Commit) *code.Writer {
 
 // GetCommit reads a commitment.
 func GetCommit(r *code.Reader) api.Commit {
-	return api.Commit{Name: GetName(r), Hash: r.Hash(), Len: getInt(r), Sig: GetSig(r)}
+	return api.Commit{Name: GetName(r), Hash: r.Hash(), Len: GetInt(r), Sig: GetSig(r)}
 }
 
 // PutCert writes a certificate.
@@ -57,7 +57,7 @@ func PutOpening(w *code.Writer, x api.Opening) *code.Writer {
 
 // GetOpening reads an opening.
 func GetOpening(r *code.Reader) api.Opening {
-	return api.Opening{Index: getInt(r), Payload: r.Row(api.MaxPayload), Nonce: r.Hash()}
+	return api.Opening{Index: GetInt(r), Payload: r.Row(api.MaxPayload), Nonce: r.Hash()}
 }
 
 // PutBatch writes a batch.
@@ -71,7 +71,7 @@ func PutBatch(w *code.Writer, x api.Batch) *code.Writer {
 // GetBatch reads a batch.
 func GetBatch(r *code.Reader) api.Batch {
 	return api.Batch{
-		Epoch:    getInt(r),
+		Epoch:    GetInt(r),
 		Time:     r.Num(),
 		Promises: getList(r, GetPromise),
 		Openings: getList(r, GetOpening),
@@ -86,5 +86,25 @@ func putTomb(w *code.Writer, x api.Tomb) *code.Writer {
 
 // getTomb reads a tombstone.
 func getTomb(r *code.Reader) api.Tomb {
-	return api.Tomb{Index: getInt(r), Denies: getList(r, GetDeny)}
+	return api.Tomb{Index: GetInt(r), Denies: getList(r, GetDeny)}
+}
+
+// PutDecided writes a batch that was decided.
+func PutDecided(w *code.Writer, x api.Decided) *code.Writer {
+	return putList(PutBatch(w.Int(x.Epoch).Int(x.Round), x.Batch), PutVote, x.Votes)
+}
+
+// GetDecided reads a batch that was decided.
+func GetDecided(r *code.Reader) api.Decided {
+	return api.Decided{Epoch: GetInt(r), Round: GetInt(r), Batch: GetBatch(r), Votes: getList(r, GetVote)}
+}
+
+// PutEntry writes a place in the log.
+func PutEntry(w *code.Writer, x api.Entry) *code.Writer {
+	return PutName(w, x.Name).Hash(x.Hash).Num(x.Time)
+}
+
+// GetEntry reads a place in the log.
+func GetEntry(r *code.Reader) api.Entry {
+	return api.Entry{Name: GetName(r), Hash: r.Hash(), Time: r.Num()}
 }

@@ -13,7 +13,7 @@ func StampText(x api.Stamp) []byte {
 
 // AckText tells what a replica signs of its ack.
 func AckText(x api.Ack) []byte {
-	return part.PutName(begin("ack").Int(x.Replica), x.Name).Hash(x.Hash).Num(x.Median).Bytes()
+	return part.AckFields(begin("ack"), x).Bytes()
 }
 
 // PromiseText tells what a replica signs of its promise.
@@ -28,21 +28,12 @@ func DenyText(x api.Deny) []byte {
 
 // ProposalText tells what a replica signs of its proposal. The batch is in it by its hash alone.
 func ProposalText(x api.Proposal) []byte {
-	w := begin("proposal").Int(x.Epoch).Int(x.Round).Num(oneMore(x.Valid))
-	return w.Int(x.Replica).Hash(BatchHash(x.Batch)).Bytes()
+	return part.ProposalHead(begin("proposal"), x).Hash(BatchHash(x.Batch)).Bytes()
 }
 
 // VoteText tells what a replica signs of its vote.
 func VoteText(x api.Vote) []byte {
 	return part.VoteFields(begin("vote"), x).Bytes()
-}
-
-// oneMore is n + 1, below 0: 0. Unsigned, as one more than the greatest int is no int.
-func oneMore(n int) uint64 {
-	if n < 0 {
-		return 0
-	}
-	return uint64(n) + 1
 }
 
 // begin begins what is signed. The word is in front, so that nothing that is signed for one thing is right for another.
