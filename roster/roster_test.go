@@ -6,6 +6,7 @@ import (
 	"testing"
 
 	"gavel/api"
+	"gavel/book"
 	"gavel/roster"
 	"gavel/wire"
 )
@@ -48,5 +49,30 @@ func TestHasOfAnyNumbers(t *testing.T) {
 				}
 			}
 		}
+	}
+}
+
+// Signed asks for the replica, for the signer, and for just that text.
+func TestSigned(t *testing.T) {
+	c, b, text := api.Conf{F: 1, Clients: 1}, book.New(), []byte("text")
+	for by := -2; by < 7; by++ {
+		s := b.Sign(by, text)
+		for replica := -2; replica < 7; replica++ {
+			want := replica == by && replica >= 0 && replica < 4
+			if got := roster.Signed(c, b, replica, s, text); got != want {
+				t.Errorf("replica %d, signed by %d: %v", replica, by, got)
+			}
+			for _, other := range []string{"", "tex", "texts", "Text"} {
+				if roster.Signed(c, b, replica, s, []byte(other)) {
+					t.Errorf("replica %d, signed by %d: right of %q", replica, by, other)
+				}
+			}
+			if roster.Signed(c, b, replica, api.Sig{By: by, Mark: s.Mark + 100}, text) {
+				t.Errorf("replica %d, signed by %d: right with another mark", replica, by)
+			}
+		}
+	}
+	if b.Len() != 9 || string(text) != "text" {
+		t.Error("something is signed or changed")
 	}
 }
