@@ -102,12 +102,14 @@ func TestProposerGoesRound(t *testing.T) {
 	}
 }
 
-// Where both together are below 0, it is 0; else one of them may be.
+// An epoch below 0 counts as 0, and so does a round, whatever the other one is.
 func TestProposerBelowZero(t *testing.T) {
 	for _, x := range []struct{ epoch, round, want int }{
-		{-1, 0, 0}, {0, -1, 0}, {-1, -1, 0}, {-2, 1, 0}, {1, -2, 0}, {-3, 0, 0}, {0, -3, 0}, {-4, 0, 0}, {-5, 0, 0}, {-7, 4, 0}, {4, -7, 0},
-		{-1, 1, 0}, {1, -1, 0}, {-1, 2, 1}, {3, -1, 2}, {-1, 4, 3}, {-5, 7, 2}, {7, -5, 2},
-		{math.MinInt, 0, 0}, {math.MinInt, math.MinInt, 0}, {math.MinInt, math.MaxInt, 0}, {math.MaxInt, math.MinInt, 0}, {math.MinInt, -1, 0}, {-1, math.MinInt, 0}, {math.MaxInt, -1, 2}, {-1, math.MaxInt, 2}, {math.MaxInt, math.MinInt + 1, 0}, {math.MaxInt, math.MinInt + 2, 1},
+		{-1, 0, 0}, {0, -1, 0}, {-1, -1, 0}, {-3, 0, 0}, {0, -3, 0}, {-4, 0, 0}, {-5, -2, 0}, {-2, -3, 0},
+		{-1, 1, 1}, {1, -1, 1}, {-1, 3, 3}, {3, -1, 3}, {-1, 4, 0}, {4, -1, 0}, {6, -1, 2}, {-1, 6, 2},
+		{-2, 1, 1}, {1, -2, 1}, {-5, 2, 2}, {2, -7, 2}, {-7, 4, 0}, {-5, 7, 3}, {7, -5, 3},
+		{math.MinInt, 0, 0}, {math.MinInt, math.MinInt, 0}, {math.MinInt, -1, 0}, {-1, math.MinInt, 0}, {math.MinInt, 5, 1}, {5, math.MinInt, 1},
+		{math.MinInt, math.MaxInt, 3}, {math.MaxInt, math.MinInt, 3}, {math.MaxInt, -1, 3}, {-1, math.MaxInt, 3},
 	} {
 		if got := core.Proposer(conf, x.epoch, x.round); got != x.want {
 			t.Errorf("epoch %d, round %d: %d, want %d", x.epoch, x.round, got, x.want)
@@ -135,9 +137,14 @@ func TestProposerOfAnyNumbers(t *testing.T) {
 // bigProposer is Proposer in numbers without bounds.
 func bigProposer(f, epoch, round int) int {
 	n := new(big.Int).Add(new(big.Int).Mul(big.NewInt(3), big.NewInt(int64(f))), big.NewInt(1))
-	sum := new(big.Int).Add(big.NewInt(int64(epoch)), big.NewInt(int64(round)))
-	if sum.Sign() < 0 || n.Sign() <= 0 {
+	if n.Sign() <= 0 {
 		return 0
+	}
+	sum := new(big.Int)
+	for _, x := range []int{epoch, round} {
+		if x > 0 {
+			sum.Add(sum, big.NewInt(int64(x)))
+		}
 	}
 	if sum.Mod(sum, n); !sum.IsInt64() {
 		return 0
