@@ -21,6 +21,13 @@ func ended(t *testing.T, openings []api.Opening, tombs []api.Tomb) *ledger.Ledge
 
 func open(l ...api.Opening) []api.Opening { return l }
 
+// only is what became of five open places where that became of place i.
+func only(i int, s string) []string {
+	l := slices.Repeat([]string{"-"}, 5)
+	l[i] = s
+	return l
+}
+
 func TestStatusOfOpenPlaces(t *testing.T) {
 	for n := range 5 {
 		wantStatus(t, log(t, n), slices.Repeat([]string{"-"}, n)...)
@@ -88,28 +95,18 @@ func TestEndsOfPlacesToCome(t *testing.T) {
 // One place twice in one batch: the first opening holds, and an opening rather than a tombstone, wherever they stand.
 func TestOnePlaceTwiceInABatch(t *testing.T) {
 	for i := range 5 {
-		at := func(s string) []string {
-			l := []string{"-", "-", "-", "-", "-"}
-			l[i] = s
-			return l
-		}
-		wantStatus(t, ended(t, open(opening(i, "a"), opening(i, "b")), nil), at("=a")...)
-		wantStatus(t, ended(t, open(opening(i, ""), opening(i, "b"), opening(i, "c")), nil), at("=")...)
-		wantStatus(t, ended(t, nil, tombs(i, i)), at("x")...)
-		wantStatus(t, ended(t, open(opening(i, "a")), tombs(i)), at("=a")...)
-		wantStatus(t, ended(t, open(opening(i, "a"), opening(i, "b")), tombs(i, i)), at("=a")...)
-		wantStatus(t, ended(t, open(opening(i, "")), tombs(i)), at("=")...)
+		wantStatus(t, ended(t, open(opening(i, "a"), opening(i, "b")), nil), only(i, "=a")...)
+		wantStatus(t, ended(t, open(opening(i, ""), opening(i, "b"), opening(i, "c")), nil), only(i, "=")...)
+		wantStatus(t, ended(t, nil, tombs(i, i)), only(i, "x")...)
+		wantStatus(t, ended(t, open(opening(i, "a")), tombs(i)), only(i, "=a")...)
+		wantStatus(t, ended(t, open(opening(i, "a"), opening(i, "b")), tombs(i, i)), only(i, "=a")...)
+		wantStatus(t, ended(t, open(opening(i, "")), tombs(i)), only(i, "=")...)
 	}
 }
 
 // One place in two batches: the first holds.
 func TestOnePlaceInTwoBatches(t *testing.T) {
 	for i := range 5 {
-		at := func(s string) []string {
-			l := []string{"-", "-", "-", "-", "-"}
-			l[i] = s
-			return l
-		}
 		for _, first := range []string{"=a", "=", "x"} {
 			l := log(t, 5)
 			if first == "x" {
@@ -117,13 +114,13 @@ func TestOnePlaceInTwoBatches(t *testing.T) {
 			} else {
 				apply(t, l, opens(1, 20, opening(i, first[1:])), 0)
 			}
-			wantStatus(t, l, at(first)...)
+			wantStatus(t, l, only(i, first)...)
 			apply(t, l, opens(2, 30, opening(i, "b")), 0)
-			wantStatus(t, l, at(first)...)
+			wantStatus(t, l, only(i, first)...)
 			apply(t, l, buries(3, 40, i), 0)
-			wantStatus(t, l, at(first)...)
+			wantStatus(t, l, only(i, first)...)
 			apply(t, l, api.Batch{Epoch: 4, Time: 50, Openings: open(opening(i, "")), Tombs: tombs(i)}, 0)
-			wantStatus(t, l, at(first)...)
+			wantStatus(t, l, only(i, first)...)
 		}
 	}
 }
